@@ -1,0 +1,169 @@
+"""The calls that are answered about a stock text, and the reading of that text."""
+
+MOST_BYTES = 4096
+MOST_BOARDS = 8
+MOST_BLOCKS = 8
+
+LINE_FEED = 10
+BLANK = 32
+DIGIT_0 = 48
+DIGIT_9 = 57
+
+TOO_LONG = -2
+FAULTY = -6
+
+SOUND = 0
+NOT_FORMED = 1
+TOO_MUCH = 2
+CANT_STAND = 3
+
+NO_NUMBER = -1
+
+# For each word of a line: the least and the greatest value of each number behind it.
+BOUNDS = {
+    "kerf": ((0, 16),),
+    "board": ((1, 4096), (1, 1000)),
+    "block": ((1, 4096), (1, 8)),
+}
+
+
+class Stock:
+    """What a stock text says; where it is refused, refusal is the answer instead."""
+
+    def __init__(self):
+        self.kerf = None
+        self.boards = []
+        self.blocks = []
+        self.refusal = []
+
+
+def judge(text):
+    """Answer whether the text is one stock: [0], or why it is refused."""
+    stock = read_stock(text)
+    if stock.refusal != []:
+        return stock.refusal
+    return [0]
+
+
+def read_stock(text):
+    """Read a text as far as it is right; boards are pairs (length, cost), blocks lengths."""
+    stock = Stock()
+    if len(text) > MOST_BYTES:
+        stock.refusal = [TOO_LONG]
+        return stock
+    fault = take_lines(stock, split_at(text, LINE_FEED))
+    if fault != []:
+        stock.refusal = [FAULTY] + fault
+    return stock
+
+
+def take_lines(stock, pieces):
+    """Put the lines into the stock up to the first fault, and give back its line and why, or []."""
+    lines = pieces[:-1]
+    for place, line in enumerate(lines):
+        why = take_line(stock, line)
+        if why != SOUND:
+            return [place, why]
+    # The last piece is what no line feed stands behind: of a whole text it is empty.
+    if pieces[-1] != []:
+        return [len(lines), NOT_FORMED]
+    if stock.blocks == []:
+        return [len(lines), CANT_STAND]
+    return []
+
+
+def take_line(stock, line):
+    """Put one line into the stock, or leave the stock as it is and give back what is wrong."""
+    pieces = split_at(line, BLANK)
+    word = word_of(pieces[0])
+    if word == "":
+        return NOT_FORMED
+    numbers = numbers_of(pieces[1:], BOUNDS[word])
+    if numbers == []:
+        return NOT_FORMED
+    if not can_stand(stock, word):
+        return CANT_STAND
+    if is_too_much(stock, word, numbers):
+        return TOO_MUCH
+    put(stock, word, numbers)
+    return SOUND
+
+
+def can_stand(stock, word):
+    """Whether a line with this word may follow what the stock has so far."""
+    if word == "kerf":
+        return stock.kerf is None
+    if word == "board":
+        return stock.kerf is not None and stock.blocks == []
+    return stock.boards != []
+
+
+def is_too_much(stock, word, numbers):
+    """Whether the line would give the stock more boards or blocks than it may have."""
+    if word == "board":
+        return len(stock.boards) == MOST_BOARDS
+    if word == "block":
+        return len(stock.blocks) + numbers[1] > MOST_BLOCKS
+    return False
+
+
+def put(stock, word, numbers):
+    """Put into the stock what a right line says."""
+    if word == "kerf":
+        stock.kerf = numbers[0]
+    elif word == "board":
+        stock.boards.append((numbers[0], numbers[1]))
+    else:
+        stock.blocks.extend([numbers[0]] * numbers[1])
+
+
+def word_of(signs):
+    """The word that the bytes spell, or an empty text if it is none of a stock's."""
+    for word in BOUNDS:
+        if signs == [ord(letter) for letter in word]:
+            return word
+    return ""
+
+
+def numbers_of(pieces, bounds):
+    """The numbers that the pieces write, or [] if they are not as many or not within the bounds."""
+    if len(pieces) != len(bounds):
+        return []
+    numbers = []
+    for digits, bound in zip(pieces, bounds):
+        number = number_of(digits, bound[1])
+        if number < bound[0]:
+            return []
+        numbers.append(number)
+    return numbers
+
+
+def number_of(digits, most):
+    """The number that the bytes write, or NO_NUMBER if they write none or one above most."""
+    if digits == []:
+        return NO_NUMBER
+    if digits[0] == DIGIT_0 and len(digits) > 1:
+        return NO_NUMBER
+    number = 0
+    for digit in digits:
+        if digit < DIGIT_0 or digit > DIGIT_9:
+            return NO_NUMBER
+        number = number * 10 + digit - DIGIT_0
+        # Left here, so that thousands of digits never grow into a huge number.
+        if number > most:
+            return NO_NUMBER
+    return number
+
+
+def split_at(signs, mark):
+    """What stands ahead of, between and behind the marks, empty pieces too."""
+    pieces = []
+    piece = []
+    for sign in signs:
+        if sign == mark:
+            pieces.append(piece)
+            piece = []
+        else:
+            piece.append(sign)
+    pieces.append(piece)
+    return pieces

@@ -158,8 +158,10 @@ class NotFormed(Judging):
         for sign in "x-+._,/:'\"\t\r\0\xb2\xff":
             self.check_lines(
                 kerfs=["kerf " + sign, "kerf 1" + sign, "kerf " + sign + "1", "kerf 1" + sign + "1"],
-                boards=[f"board {sign} 7", f"board 1{sign} 7", f"board {sign}1 7", f"board 1 {sign}", f"board 1 7{sign}"],
-                blocks=[f"block {sign} 2", f"block 2{sign} 2", f"block {sign}2 2", f"block 2 {sign}", f"block 2 2{sign}"],
+                boards=[f"board {sign} 7", f"board 1{sign} 7", f"board {sign}1 7",
+                        f"board 1 {sign}", f"board 1 7{sign}"],
+                blocks=[f"block {sign} 2", f"block 2{sign} 2", f"block {sign}2 2",
+                        f"block 2 {sign}", f"block 2 2{sign}"],
             )
 
     def test_blanks(self):

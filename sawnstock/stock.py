@@ -45,6 +45,14 @@ def judge(text):
     return [0]
 
 
+def sizes(text):
+    """Answer [0, the kerf, how many boards, how many blocks], or why the text is refused."""
+    stock = read_stock(text)
+    if stock.refusal != []:
+        return stock.refusal
+    return [0, stock.kerf, len(stock.boards), len(stock.blocks)]
+
+
 def read_stock(text):
     """Read a text as far as it is right; boards are pairs (length, cost), blocks lengths."""
     stock = Stock()

@@ -1,21 +1,11 @@
 """judge: a text is one stock, or has one fault (promise 1)."""
 
-import contextlib
-import io
 import itertools
 import re
 import unittest
 
 from sawnstock.stock import judge
-
-KERF = "kerf 3\n"
-BOARD = "board 100 7\n"
-BLOCK = "block 20 2\n"
-STOCK = KERF + BOARD + BLOCK
-
-
-def bytes_of(text):
-    return list(text.encode("latin-1"))
+from tests.helper import BLOCK, BOARD, EachCallByItself, KERF, REFUSED, STOCK, bytes_of
 
 
 def judged(text):
@@ -267,6 +257,12 @@ class SeveralReasons(Judging):
         self.check_all([KERF + BOARD + BLOCK * 5 + BOARD, KERF + BOARD + BLOCK * 5 + "x\n"], [-6, 6, 2])
 
 
+class Refused(Judging):
+    def test_the_texts_that_every_call_refuses(self):
+        for text, answer in REFUSED:
+            self.check_all([text], answer)
+
+
 class OneStockOrOneFault(Judging):
     """Promise 1 over many texts, each beside a second reading of the document."""
 
@@ -302,51 +298,10 @@ class OneStockOrOneFault(Judging):
                 self.check_text(KERF + BOARD + f"block {numbers}\n")
 
 
-class ReadOnly(list):
-    """A list that fails when it is changed, even for a while."""
-
-    def refuse(self, *args, **kwargs):
-        raise RuntimeError("what was handed in was changed")
-
-    append = clear = extend = insert = pop = remove = reverse = sort = refuse
-    __setitem__ = __delitem__ = __iadd__ = __imul__ = refuse
-
-
-class EachCallByItself(Judging):
-    TEXTS = ("", STOCK, KERF + BOARD, "x\n", KERF + BOARD * 9, STOCK + "x", "9" * 4097, STOCK * 200)
-
-    def test_what_was_handed_in_is_as_it_was(self):
-        for text in self.TEXTS:
-            handed = bytes_of(text)
-            judge(handed)
-            self.assertEqual(handed, bytes_of(text))
-            self.assertEqual(judge(ReadOnly(handed)), judge(handed))
-
-    def test_a_second_call_answers_as_the_first(self):
-        first = [judged(text) for text in self.TEXTS]
-        self.assertEqual([judged(text) for text in self.TEXTS], first)
-        self.assertEqual([judged(text) for text in reversed(self.TEXTS)], first[::-1])
-
-    def test_an_answer_that_is_changed_changes_no_other(self):
-        for text in self.TEXTS:
-            answer = judged(text)
-            kept = list(answer)
-            answer.append(77)
-            answer[0] = 78
-            self.assertEqual(judged(text), kept)
-
-    def test_an_answer_is_a_list_of_whole_numbers(self):
-        for text in self.TEXTS:
-            answer = judged(text)
-            self.assertIs(type(answer), list)
-            self.assertEqual({type(number) for number in answer}, {int})
-
-    def test_nothing_is_printed(self):
-        printed = io.StringIO()
-        with contextlib.redirect_stdout(printed), contextlib.redirect_stderr(printed):
-            for text in self.TEXTS:
-                judged(text)
-        self.assertEqual(printed.getvalue(), "")
+class JudgeByItself(EachCallByItself, unittest.TestCase):
+    CALL = staticmethod(judge)
+    ROWS = [[bytes_of(text)] for text in
+            ("", STOCK, KERF + BOARD, "x\n", KERF + BOARD * 9, STOCK + "x", "9" * 4097, STOCK * 200)]
 
 
 if __name__ == "__main__":

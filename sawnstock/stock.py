@@ -9,8 +9,10 @@ BLANK = 32
 DIGIT_0 = 48
 DIGIT_9 = 57
 
+BAD_LIST = -1
 TOO_LONG = -2
 FAULTY = -6
+NOT_RIGHT = -8
 
 SOUND = 0
 NOT_FORMED = 1
@@ -51,6 +53,50 @@ def sizes(text):
     if stock.refusal != []:
         return stock.refusal
     return [0, stock.kerf, len(stock.boards), len(stock.blocks)]
+
+
+def check(text, plan):
+    """Answer [0, what the plan costs, how many boards it uses], or why the text or the plan is refused."""
+    stock = read_stock(text)
+    if stock.refusal != []:
+        return stock.refusal
+    if not is_plan(stock, plan):
+        return [BAD_LIST]
+    overfull = first_overfull(stock, plan)
+    if overfull != []:
+        return [NOT_RIGHT] + overfull
+    used = [board for board in range(len(stock.boards)) if board in plan]
+    return [0, sum([stock.boards[board][1] for board in used]), len(used)]
+
+
+def is_plan(stock, plan):
+    """Whether the list tells for each block a board that is there."""
+    if len(plan) != len(stock.blocks):
+        return False
+    return all([board < len(stock.boards) for board in plan])
+
+
+def first_overfull(stock, plan):
+    """The first board that the plan overfills and by how much, or [] if the plan is right."""
+    for board in range(len(stock.boards)):
+        over = excess(stock, board, lengths_cut(stock, plan, board))
+        if over > 0:
+            return [board, over]
+    return []
+
+
+def lengths_cut(stock, plan, board):
+    """The lengths of the blocks that the plan cuts from the board."""
+    return [length for length, place in zip(stock.blocks, plan) if place == board]
+
+
+def excess(stock, board, lengths):
+    """By how much blocks of these lengths overfill the board: 0 if they can all be cut from it."""
+    if lengths == []:
+        return 0
+    # One cut less than blocks: behind the last one the saw may run off the end.
+    needed = sum(lengths) + stock.kerf * (len(lengths) - 1)
+    return max(0, needed - stock.boards[board][0])
 
 
 def read_stock(text):

@@ -40,6 +40,55 @@ def stock_text(kerf, boards, blocks):
             + "".join(f"block {length} {n}\n" for length, n in blocks))
 
 
+def read_plainly(text):
+    """The kerf, the boards (length, cost) and the blocks' lengths of a right text, by other means than the program's."""
+    rows = [line.split(" ") for line in text.splitlines()]
+    boards = [(int(row[1]), int(row[2])) for row in rows if row[0] == "board"]
+    blocks = [int(row[1]) for row in rows if row[0] == "block" for n in range(int(row[2]))]
+    return int(rows[0][1]), boards, blocks
+
+
+def checked_plainly(text, plan):
+    """What check answers of a right text and any list, by the document's words once more."""
+    kerf, boards, blocks = read_plainly(text)
+    if len(plan) != len(blocks) or not set(plan) <= set(range(len(boards))):
+        return [-1]
+    ends = {}
+    for length, board in zip(blocks, plan):
+        # Where the block ends: the first at its length, another a kerf behind the one ahead of it.
+        ends[board] = ends[board] + kerf + length if board in ends else length
+    for board in sorted(ends):
+        if ends[board] > boards[board][0]:
+            return [-8, board, ends[board] - boards[board][0]]
+    return [0, sum(boards[board][1] for board in ends), len(ends)]
+
+
+class Dice:
+    """Whole numbers that look thrown and are the same at every run."""
+
+    def __init__(self, seed):
+        self.state = seed
+
+    def throw(self, low, high):
+        self.state = (self.state * 6364136223846793005 + 1442695040888963407) % 2 ** 64
+        return low + (self.state >> 33) % (high - low + 1)
+
+    def throws(self, count, low, high):
+        return [self.throw(low, high) for place in range(count)]
+
+    def stock(self, most_boards=8, most_blocks=8):
+        """A stock text whose blocks go on its boards about as often as not."""
+        kerf = self.throw(0, 1) * self.throw(0, 16)
+        boards = [(self.throw(10, 60), self.throw(1, 6)) for place in range(self.throw(1, most_boards))]
+        count = self.throw(1, most_blocks)
+        blocks = []
+        while count > 0:
+            n = self.throw(1, min(count, 3))
+            blocks.append((self.throw(1, 40), n))
+            count -= n
+        return stock_text(kerf, boards, blocks)
+
+
 class ReadOnly(list):
     """A list that fails when it is changed, even for a while."""
 

@@ -11,6 +11,7 @@ DIGIT_9 = 57
 
 BAD_LIST = -1
 TOO_LONG = -2
+NO_RIGHT_PLAN = -3
 FAULTY = -6
 NOT_RIGHT = -8
 
@@ -69,6 +70,17 @@ def check(text, plan):
     return [0, sum([stock.boards[board][1] for board in used]), len(used)]
 
 
+def best(text):
+    """Answer [0, what the best plan costs, how many boards it uses, each block's board], or a refusal."""
+    stock = read_stock(text)
+    if stock.refusal != []:
+        return stock.refusal
+    found = best_way(stock)
+    if found is None:
+        return [NO_RIGHT_PLAN]
+    return [0, found[0], found[1]] + plan_of(found[2], len(stock.blocks))
+
+
 def is_plan(stock, plan):
     """Whether the list tells for each block a board that is there."""
     if len(plan) != len(stock.blocks):
@@ -97,6 +109,59 @@ def excess(stock, board, lengths):
     # One cut less than blocks: behind the last one the saw may run off the end.
     needed = sum(lengths) + stock.kerf * (len(lengths) - 1)
     return max(0, needed - stock.boards[board][0])
+
+
+def best_way(stock):
+    """The best way to cut all blocks, or None if there is no right plan.
+
+    A way is (what it costs, how many boards it uses, its row), so that the lesser of two is the better one. A set of
+    blocks is a number with a digit for each block, the first block's highest: 1 if the block is in it, else 0. A row
+    has each block's board as its digit, so the lesser row is the first, and a set times a board is that set's row.
+    """
+    groups = block_groups(stock)
+    ways = {0: (0, 0, 0)}
+    for board in range(len(stock.boards)):
+        fitting = [group for group, lengths in groups if group > 0 and excess(stock, board, lengths) == 0]
+        ways = with_board(ways, board, stock.boards[board][1], fitting)
+    everything = groups[-1][0]
+    return ways.get(everything)
+
+
+def block_groups(stock):
+    """Every set of the stock's blocks with their lengths, the empty one first and that of all blocks last."""
+    groups = [(0, [])]
+    digit = 1
+    for length in reversed(stock.blocks):
+        groups = groups + [(group + digit, lengths + [length]) for group, lengths in groups]
+        digit = digit * MOST_BOARDS
+    return groups
+
+
+def with_board(ways, board, cost, fitting):
+    """The best way for each set of blocks, when the board may be used beside those that the ways use."""
+    better = dict(ways)
+    for cut, way in ways.items():
+        for group in fitting:
+            # A digit is three bits, so that no bit in both is no block in both.
+            if (cut & group) == 0:
+                offer(better, cut + group, (way[0] + cost, way[1] + 1, way[2] + board * group))
+    return better
+
+
+def offer(ways, cut, way):
+    """Keep the way for the blocks that it cuts, unless one as good is kept already."""
+    if cut not in ways or way < ways[cut]:
+        ways[cut] = way
+
+
+def plan_of(row, count):
+    """The boards of so many blocks, in order, that are the digits of the row."""
+    plan = []
+    rest = row
+    for place in range(count):
+        plan.insert(0, rest % MOST_BOARDS)
+        rest = rest // MOST_BOARDS
+    return plan
 
 
 def read_stock(text):

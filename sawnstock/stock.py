@@ -12,6 +12,7 @@ DIGIT_9 = 57
 BAD_LIST = -1
 TOO_LONG = -2
 NO_RIGHT_PLAN = -3
+NO_SUCH_BOARD = -4
 FAULTY = -6
 NOT_RIGHT = -8
 
@@ -79,6 +80,22 @@ def best(text):
     if found is None:
         return [NO_RIGHT_PLAN]
     return [0, found[0], found[1]] + plan_of(found[2], len(stock.blocks))
+
+
+def left(b, text, plan):
+    """Answer [what is left of board b when the plan is sawn], or why the text, the plan or b is refused."""
+    stock = read_stock(text)
+    if stock.refusal != []:
+        return stock.refusal
+    if not is_plan(stock, plan):
+        return [BAD_LIST]
+    if b >= len(stock.boards):
+        return [NO_SUCH_BOARD]
+    if first_overfull(stock, plan) != []:
+        return [NOT_RIGHT]
+    lengths = lengths_cut(stock, plan, b)
+    # A cut behind each block, the last one too; where that cut runs off the end, nothing is left.
+    return [max(0, stock.boards[b][0] - sum(lengths) - stock.kerf * len(lengths))]
 
 
 def is_plan(stock, plan):

@@ -98,6 +98,30 @@ def left(b, text, plan):
     return [max(0, stock.boards[b][0] - sum(lengths) - stock.kerf * len(lengths))]
 
 
+def fits(b, text, blocks):
+    """Answer [1] if the blocks can all be cut from board b, else [0], or why the text, the blocks or b is refused."""
+    stock = read_stock(text)
+    if stock.refusal != []:
+        return stock.refusal
+    if not is_set_of_blocks(stock, blocks):
+        return [BAD_LIST]
+    if b >= len(stock.boards):
+        return [NO_SUCH_BOARD]
+    if excess(stock, b, [stock.blocks[block] for block in blocks]) > 0:
+        return [0]
+    return [1]
+
+
+def is_set_of_blocks(stock, blocks):
+    """Whether the list is of numbers of blocks that are there, rising."""
+    least = 0
+    for block in blocks:
+        if block < least or block >= len(stock.blocks):
+            return False
+        least = block + 1
+    return True
+
+
 def is_plan(stock, plan):
     """Whether the list tells for each block a board that is there."""
     if len(plan) != len(stock.blocks):

@@ -2,11 +2,16 @@
 
 import contextlib
 import io
+import itertools
+import re
 
 KERF = "kerf 3\n"
 BOARD = "board 100 7\n"
 BLOCK = "block 20 2\n"
 STOCK = KERF + BOARD + BLOCK
+
+# The greatest number that b and a list may hold.
+FAR = 4294967295
 
 # Texts that every call refuses, and the answer of every call: each reason, at the first line, between and at the end.
 REFUSED = (
@@ -40,8 +45,40 @@ def stock_text(kerf, boards, blocks):
             + "".join(f"block {length} {n}\n" for length, n in blocks))
 
 
+def judged_plainly(text):
+    """What judge answers of any text, by the document's words once more and other means than the program's."""
+    if len(text) > 4096:
+        return [-2]
+    number = "(0|[1-9][0-9]*)"
+    forms = {
+        "kerf": (re.compile(f"kerf {number}\n"), [(0, 16)]),
+        "board": (re.compile(f"board {number} {number}\n"), [(1, 4096), (1, 1000)]),
+        "block": (re.compile(f"block {number} {number}\n"), [(1, 4096), (1, 8)]),
+    }
+    seen = ""
+    blocks = 0
+    lines = re.findall("[^\n]*\n|[^\n]+", text)
+    for place, line in enumerate(lines):
+        letter = ""
+        for word, (form, bounds) in forms.items():
+            match = form.fullmatch(line)
+            if match and all(low <= int(group) <= high for group, (low, high) in zip(match.groups(), bounds)):
+                letter = {"kerf": "k", "board": "p", "block": "b"}[word]
+                numbers = [int(group) for group in match.groups()]
+        if letter == "":
+            return [-6, place, 1]
+        seen += letter
+        if not re.fullmatch("k(p+b*)?", seen):
+            return [-6, place, 3]
+        if letter == "b":
+            blocks += numbers[1]
+        if seen.count("p") > 8 or blocks > 8:
+            return [-6, place, 2]
+    return [0] if blocks else [-6, len(lines), 3]
+
+
 def read_plainly(text):
-    """The kerf, the boards (length, cost) and the blocks' lengths of a right text, by other means than the program's."""
+    """The kerf, the boards (length, cost) and the blocks' lengths of a right text."""
     rows = [line.split(" ") for line in text.splitlines()]
     boards = [(int(row[1]), int(row[2])) for row in rows if row[0] == "board"]
     blocks = [int(row[1]) for row in rows if row[0] == "block" for n in range(int(row[2]))]
@@ -61,6 +98,45 @@ def checked_plainly(text, plan):
         if ends[board] > boards[board][0]:
             return [-8, board, ends[board] - boards[board][0]]
     return [0, sum(boards[board][1] for board in ends), len(ends)]
+
+
+def best_plainly(text):
+    """What best answers of a right text, by a look at every plan there is."""
+    kerf, boards, blocks = read_plainly(text)
+    answers = []
+    for plan in itertools.product(range(len(boards)), repeat=len(blocks)):
+        answer = checked_plainly(text, plan)
+        if answer[0] == 0:
+            answers.append(answer + list(plan))
+    return min(answers, default=[-3])
+
+
+def left_plainly(b, text, plan):
+    """What left answers of a right text, by the document's words once more."""
+    kerf, boards, blocks = read_plainly(text)
+    answer = checked_plainly(text, plan)
+    if answer[0] == -1:
+        return [-1]
+    if b not in range(len(boards)):
+        return [-4]
+    if answer[0] == -8:
+        return [-8]
+    rest = boards[b][0]
+    for length, board in zip(blocks, plan):
+        if board == b:
+            rest -= length + kerf
+    return [rest if rest > 0 else 0]
+
+
+def fits_plainly(b, text, blocks):
+    """What fits answers of a right text, by the document's words once more."""
+    kerf, boards, lengths = read_plainly(text)
+    if list(blocks) != sorted(set(blocks)) or not set(blocks) <= set(range(len(lengths))):
+        return [-1]
+    if b not in range(len(boards)):
+        return [-4]
+    # The saw's last cut may run off the end: as if the board were a kerf longer.
+    return [int(sum(lengths[block] + kerf for block in blocks) <= boards[b][0] + kerf)]
 
 
 class Dice:

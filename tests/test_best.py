@@ -4,18 +4,7 @@ import itertools
 import unittest
 
 from sawnstock.stock import best, check, judge
-from tests.helper import Dice, EachCallByItself, REFUSED, bytes_of, checked_plainly, read_plainly, stock_text
-
-
-def best_plainly(text):
-    """What best answers of a right text, by a look at every plan there is."""
-    kerf, boards, blocks = read_plainly(text)
-    answers = []
-    for plan in itertools.product(range(len(boards)), repeat=len(blocks)):
-        answer = checked_plainly(text, plan)
-        if answer[0] == 0:
-            answers.append(answer + list(plan))
-    return min(answers, default=[-3])
+from tests.helper import Dice, EachCallByItself, REFUSED, best_plainly, bytes_of, checked_plainly, stock_text
 
 
 class Best(unittest.TestCase):

@@ -4,9 +4,7 @@ import itertools
 import unittest
 
 from sawnstock.stock import check, judge
-from tests.helper import Dice, EachCallByItself, REFUSED, bytes_of, checked_plainly, read_plainly, stock_text
-
-FAR = 4294967295
+from tests.helper import Dice, EachCallByItself, FAR, REFUSED, bytes_of, checked_plainly, read_plainly, stock_text
 
 
 class Checking(unittest.TestCase):

@@ -1,6 +1,7 @@
 """The package's own files: their size, their signs, and that they import and print nothing."""
 
 import ast
+import builtins
 import pathlib
 import re
 import unittest
@@ -76,6 +77,19 @@ class Form(unittest.TestCase):
                 if isinstance(node, ast.Name):
                     self.assertIn(node.id, own, f"{name}:{node.lineno}")
         self.assertEqual(called - own - set(ALLOWED_METHODS), set())
+        self.assertEqual((own - set(ALLOWED_NAMES)) & set(dir(builtins)), set())
+        self.assertEqual([name for name in own if name.startswith("_") and name != "__init__"], [])
+
+    def test_each_name_once_at_a_file_s_top_and_one_target(self):
+        for name, tree in trees():
+            tops = [node.name for node in tree.body if isinstance(node, (ast.FunctionDef, ast.ClassDef))]
+            for node in ast.walk(tree):
+                if isinstance(node, ast.Assign):
+                    self.assertEqual(len(node.targets), 1, f"{name}:{node.lineno}")
+                    self.assertIsInstance(node.targets[0], (ast.Name, ast.Attribute, ast.Subscript))
+                    if node in tree.body:
+                        tops.append(node.targets[0].id)
+            self.assertEqual(len(tops), len(set(tops)), name)
 
 
 if __name__ == "__main__":

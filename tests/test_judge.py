@@ -1,47 +1,14 @@
 """judge: a text is one stock, or has one fault (promise 1)."""
 
 import itertools
-import re
 import unittest
 
 from sawnstock.stock import judge
-from tests.helper import BLOCK, BOARD, EachCallByItself, KERF, REFUSED, STOCK, bytes_of
+from tests.helper import BLOCK, BOARD, EachCallByItself, KERF, REFUSED, STOCK, bytes_of, judged_plainly
 
 
 def judged(text):
     return judge(bytes_of(text))
-
-
-def expected(text):
-    """The document's words once more, by other means than the program's."""
-    if len(text) > 4096:
-        return [-2]
-    number = "(0|[1-9][0-9]*)"
-    forms = {
-        "kerf": (re.compile(f"kerf {number}\n"), [(0, 16)]),
-        "board": (re.compile(f"board {number} {number}\n"), [(1, 4096), (1, 1000)]),
-        "block": (re.compile(f"block {number} {number}\n"), [(1, 4096), (1, 8)]),
-    }
-    seen = ""
-    blocks = 0
-    lines = re.findall("[^\n]*\n|[^\n]+", text)
-    for place, line in enumerate(lines):
-        letter = ""
-        for word, (form, bounds) in forms.items():
-            match = form.fullmatch(line)
-            if match and all(low <= int(group) <= high for group, (low, high) in zip(match.groups(), bounds)):
-                letter = {"kerf": "k", "board": "p", "block": "b"}[word]
-                numbers = [int(group) for group in match.groups()]
-        if letter == "":
-            return [-6, place, 1]
-        seen += letter
-        if not re.fullmatch("k(p+b*)?", seen):
-            return [-6, place, 3]
-        if letter == "b":
-            blocks += numbers[1]
-        if seen.count("p") > 8 or blocks > 8:
-            return [-6, place, 2]
-    return [0] if blocks else [-6, len(lines), 3]
 
 
 class Judging(unittest.TestCase):
@@ -267,8 +234,8 @@ class OneStockOrOneFault(Judging):
     """Promise 1 over many texts, each beside a second reading of the document."""
 
     def check_text(self, text):
-        if judged(text) != expected(text):
-            self.fail(f"{text!r}: {judged(text)}, not {expected(text)}")
+        if judged(text) != judged_plainly(text):
+            self.fail(f"{text!r}: {judged(text)}, not {judged_plainly(text)}")
 
     def test_every_row_of_lines(self):
         lines = (KERF, BOARD, BLOCK, "block 4096 8\n", "x\n", "kerf 3")

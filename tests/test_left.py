@@ -4,26 +4,7 @@ import itertools
 import unittest
 
 from sawnstock.stock import check, judge, left
-from tests.helper import Dice, EachCallByItself, REFUSED, bytes_of, checked_plainly, read_plainly, stock_text
-
-FAR = 4294967295
-
-
-def left_plainly(b, text, plan):
-    """What left answers of a right text, by the document's words once more."""
-    kerf, boards, blocks = read_plainly(text)
-    answer = checked_plainly(text, plan)
-    if answer[0] == -1:
-        return [-1]
-    if b not in range(len(boards)):
-        return [-4]
-    if answer[0] == -8:
-        return [-8]
-    rest = boards[b][0]
-    for length, board in zip(blocks, plan):
-        if board == b:
-            rest -= length + kerf
-    return [rest if rest > 0 else 0]
+from tests.helper import Dice, EachCallByItself, FAR, REFUSED, bytes_of, left_plainly, read_plainly, stock_text
 
 
 class Left(unittest.TestCase):

@@ -189,10 +189,10 @@ def with_board(ways, board, cost, fitting):
     return better
 
 
-def offer(ways, cut, way):
+def offer(kept, cut, way):
     """Keep the way for the blocks that it cuts, unless one as good is kept already."""
-    if cut not in ways or way < ways[cut]:
-        ways[cut] = way
+    if cut not in kept or way < kept[cut]:
+        kept[cut] = way
 
 
 def plan_of(row, count):

@@ -45,6 +45,14 @@ def stock_text(kerf, boards, blocks):
             + "".join(f"block {length} {n}\n" for length, n in blocks))
 
 
+# Three boards and four blocks each: few enough to look at every plan.
+SMALL_STOCKS = (
+    stock_text(0, [(30, 5), (20, 4), (30, 5)], [(10, 2), (20, 2)]),
+    stock_text(3, [(23, 1), (22, 2), (46, 4)], [(10, 3), (20, 1)]),
+    stock_text(16, [(26, 1), (42, 2), (1, 4)], [(5, 1), (10, 3)]),
+)
+
+
 def judged_plainly(text):
     """What judge answers of any text, by the document's words once more and other means than the program's."""
     if len(text) > 4096:

@@ -4,7 +4,9 @@ import itertools
 import unittest
 
 from sawnstock.stock import check, judge
-from tests.helper import Dice, EachCallByItself, FAR, REFUSED, bytes_of, checked_plainly, read_plainly, stock_text
+from tests.helper import (
+    Dice, EachCallByItself, FAR, REFUSED, SMALL_STOCKS, bytes_of, checked_plainly, read_plainly, stock_text,
+)
 
 
 class Checking(unittest.TestCase):
@@ -160,11 +162,7 @@ class RefusedTexts(Checking):
 
 class BesideTheWords(Checking):
     def test_every_plan_of_some_stocks(self):
-        for text in (
-            stock_text(0, [(30, 5), (20, 4), (30, 5)], [(10, 2), (20, 2)]),
-            stock_text(3, [(23, 1), (22, 2), (46, 4)], [(10, 3), (20, 1)]),
-            stock_text(16, [(26, 1), (42, 2), (1, 4)], [(5, 1), (10, 3)]),
-        ):
+        for text in SMALL_STOCKS:
             for count in range(6):
                 for plan in itertools.product(range(4), repeat=count):
                     self.check(text, list(plan), checked_plainly(text, plan))

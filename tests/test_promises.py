@@ -5,7 +5,8 @@ import unittest
 
 from sawnstock.stock import best, check, fits, judge, left, sizes
 from tests.helper import (
-    BLOCK, BOARD, Dice, FAR, KERF, REFUSED, STOCK, best_plainly, bytes_of, judged_plainly, read_plainly, stock_text,
+    BLOCK, BOARD, Dice, FAR, KERF, REFUSED, SMALL_STOCKS, STOCK, best_plainly, bytes_of, judged_plainly,
+    read_plainly, stock_text,
 )
 
 
@@ -158,11 +159,7 @@ class CheckFitsAndLeftAgree(unittest.TestCase):
         return checked[0]
 
     def test_every_plan_of_some_stocks(self):
-        for text in (
-            stock_text(0, [(30, 5), (20, 4), (30, 5)], [(10, 2), (20, 2)]),
-            stock_text(3, [(23, 1), (22, 2), (46, 4)], [(10, 3), (20, 1)]),
-            stock_text(16, [(26, 1), (42, 2), (1, 4)], [(5, 1), (10, 3)]),
-        ):
+        for text in SMALL_STOCKS:
             for plan in itertools.product(range(3), repeat=4):
                 self.agree(text, list(plan))
 
